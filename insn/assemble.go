@@ -91,7 +91,7 @@ func (a *assembler) read(line string) {
 		a.syms = append(a.syms, api.Sym{Name: function, At: a.end})
 	}
 	if s.x.Op != 0 {
-		a.end += int64(s.layout.length())
+		a.end += int64(s.shape.length())
 		a.list = append(a.list, placed{line: a.line, next: a.end, x: s.x, label: s.label})
 	}
 }

@@ -10,19 +10,19 @@ const wideBytes = 10
 
 // Encode returns the encoding of an instruction.
 func Encode(x api.Insn) ([]byte, api.Errno) {
-	_, l, e := described(x)
+	o, e := described(x)
 	if e != api.OK {
 		return nil, e
 	}
 	b := []byte{byte(firstByte + x.Op)}
-	switch l.registers {
+	switch layouts[o.shape].registers {
 	case 1:
 		b = append(b, byte(x.A))
 	case 2:
 		b = append(b, byte(8*x.A+x.B))
 	}
 	rest := x.Imm
-	for range l.immediate {
+	for range layouts[o.shape].immediate {
 		b = append(b, byte(rest&127))
 		rest >>= 7
 	}
@@ -38,36 +38,35 @@ func Decode(b []byte) (api.Insn, int, api.Errno) {
 	if !known {
 		return api.Insn{}, 0, api.ErrInsn
 	}
-	l := layouts[o.shape]
-	n := l.length()
+	n := o.shape.length()
 	for i := 1; i < n; i++ {
 		if i == len(b) {
 			return api.Insn{}, 0, api.ErrShort
 		}
-		if !l.goesOn(i, b[i]) {
+		if !o.shape.goesOn(i, b[i]) {
 			return api.Insn{}, 0, api.ErrInsn
 		}
 	}
-	a, second := l.registersIn(b)
-	return api.Insn{Op: o.op, A: a, B: second, Imm: l.immediateIn(b[n-l.immediate : n])}, n, api.OK
+	a, second := o.shape.registersIn(b)
+	return api.Insn{Op: o.op, A: a, B: second, Imm: o.shape.immediateIn(b[:n])}, n, api.OK
 }
 
 // goesOn reports whether an encoding can have the byte c at offset i (from 1 on).
-func (l layout) goesOn(i int, c byte) bool {
+func (s shape) goesOn(i int, c byte) bool {
 	switch {
-	case i == 1 && l.registers == 1:
+	case i == 1 && layouts[s].registers == 1:
 		return c < 8
-	case i == 1 && l.registers == 2:
+	case i == 1 && layouts[s].registers == 2:
 		return c < 64
-	case l.immediate == wideBytes && i == l.length()-1:
+	case layouts[s].immediate == wideBytes && i == s.length()-1:
 		// Seven bits of 70 from bit 63 on: all of them are the sign of an int64.
 		return c == 0 || c == 127
 	}
 	return c < firstByte
 }
 
-func (l layout) registersIn(b []byte) (int, int) {
-	switch l.registers {
+func (s shape) registersIn(b []byte) (int, int) {
+	switch layouts[s].registers {
 	case 1:
 		return int(b[1]), 0
 	case 2:
@@ -76,13 +75,15 @@ func (l layout) registersIn(b []byte) (int, int) {
 	return 0, 0
 }
 
-func (l layout) immediateIn(b []byte) int64 {
+// immediateIn returns the Imm of an encoding: its last bytes.
+func (s shape) immediateIn(b []byte) int64 {
+	bytes := layouts[s].immediate
 	var v int64
-	for i := len(b) - 1; i >= 0; i-- {
+	for i := len(b) - 1; i >= len(b)-bytes; i-- {
 		v = v<<7 | int64(b[i])
 	}
-	if v > l.greatest {
-		v -= 1 << (7 * len(b))
+	if v > layouts[s].greatest {
+		v -= 1 << (7 * bytes)
 	}
 	return v
 }

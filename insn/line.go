@@ -12,12 +12,12 @@ const maxDigits = 19
 
 // Print returns an instruction as a canonical line of assembly language.
 func Print(x api.Insn) (string, api.Errno) {
-	o, l, e := described(x)
+	o, e := described(x)
 	if e != api.OK {
 		return "", e
 	}
 	line := o.mnemonic
-	for i, operand := range l.operands {
+	for i, operand := range layouts[o.shape].operands {
 		if i == 0 {
 			line += " "
 		} else {
@@ -91,7 +91,7 @@ func caught(work func()) (e api.Errno) {
 type scanner struct {
 	rest   string
 	labels bool // whether a target may be a name
-	layout layout
+	shape  shape
 	x      api.Insn // a target in it may not fit yet: other errors come first
 	label  string   // the name that is the target
 }
@@ -102,9 +102,9 @@ func (s *scanner) instruction() {
 	o, known := byMnemonic(s.word())
 	s.require(known)
 	s.x.Op = o.op
-	s.layout = layouts[o.shape]
+	s.shape = o.shape
 	readers := operandReaders()
-	for i, operand := range s.layout.operands {
+	for i, operand := range layouts[o.shape].operands {
 		if i == 0 {
 			s.require(s.blanks() > 0)
 		} else {
@@ -146,7 +146,7 @@ func (s *scanner) register() int {
 func (s *scanner) number() {
 	negative := s.accept("-")
 	v, exact := signed(s.digits(), negative)
-	s.require(exact && s.layout.fits(v))
+	s.require(exact && s.shape.fits(v))
 	s.x.Imm = v
 }
 
@@ -155,7 +155,7 @@ func (s *scanner) address() {
 	if negative := s.accept("-"); negative || s.accept("+") {
 		s.blanks()
 		v, _ := signed(s.digits(), negative)
-		s.require(s.layout.fits(v))
+		s.require(s.shape.fits(v))
 		s.x.Imm = v
 		s.blanks()
 	}

@@ -2,7 +2,6 @@ package insn
 
 import (
 	"math"
-	"slices"
 
 	"tapline/api"
 )
@@ -26,9 +25,11 @@ const (
 	operandTarget
 )
 
-// The shapes of instructions: operations of one shape have the same operands, at the same places of lines and encodings.
+// shape is the shape of instructions: operations of one shape have the same operands, at the same places of lines and encodings.
+type shape int
+
 const (
-	shapeBare = iota
+	shapeBare shape = iota
 	shapeA
 	shapeAB
 	shapeWide
@@ -65,26 +66,31 @@ var layouts = [...]layout{
 	shapeSwap:   {2, 0, 0, 0, []int{operandA, operandIndirect}},
 }
 
-func (l layout) length() int {
-	if l.registers == 0 {
-		return 1 + l.immediate
+func (s shape) length() int {
+	if layouts[s].registers == 0 {
+		return 1 + layouts[s].immediate
 	}
-	return 2 + l.immediate
+	return 2 + layouts[s].immediate
 }
 
-func (l layout) fits(immediate int64) bool {
-	return l.least <= immediate && immediate <= l.greatest
+func (s shape) fits(immediate int64) bool {
+	return layouts[s].least <= immediate && immediate <= layouts[s].greatest
 }
 
-func (l layout) relative() bool {
-	return slices.Contains(l.operands, operandTarget)
+func (s shape) relative() bool {
+	for _, operand := range layouts[s].operands {
+		if operand == operandTarget {
+			return true
+		}
+	}
+	return false
 }
 
 // operation describes an operation; reads and writes are sums of uses.
 type operation struct {
 	op       int
 	mnemonic string
-	shape    int
+	shape    shape
 	reads    int
 	writes   int
 }
@@ -145,17 +151,17 @@ func byMnemonic(mnemonic string) (operation, bool) {
 	return operation{}, false
 }
 
-// described returns the operation and the layout of a well-formed instruction, otherwise ErrInsn.
-func described(x api.Insn) (operation, layout, api.Errno) {
+// described returns the operation of a well-formed instruction, otherwise ErrInsn.
+func described(x api.Insn) (operation, api.Errno) {
 	o, known := byOp(x.Op)
 	if !known {
-		return operation{}, layout{}, api.ErrInsn
+		return operation{}, api.ErrInsn
 	}
-	l := layouts[o.shape]
-	if !isRegister(x.A, l.registers >= 1) || !isRegister(x.B, l.registers == 2) || !l.fits(x.Imm) {
-		return operation{}, layout{}, api.ErrInsn
+	registers := layouts[o.shape].registers
+	if !isRegister(x.A, registers >= 1) || !isRegister(x.B, registers == 2) || !o.shape.fits(x.Imm) {
+		return operation{}, api.ErrInsn
 	}
-	return o, l, api.OK
+	return o, api.OK
 }
 
 func isRegister(number int, present bool) bool {
